@@ -1,0 +1,1 @@
+"""Sparebridges: bridges that may fall, bridges to build."""
