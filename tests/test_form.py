@@ -17,6 +17,10 @@ DEFINED = {
         "NothingToUndo", "Broken",
     ],
     "seas": ["Sea"],
+    "strengths": ["strength", "between", "cut", "least_cuts", "tree", "is_fulfilled"],
+    "needed": ["needed", "joined", "for_all"],
+    "ends": ["end_range", "are_ends", "cheapest", "new_bridges"],
+    "closing": ["closable"],
 }
 BUILTINS = set(
     "len range enumerate zip min max sum abs sorted reversed int str bool list tuple dict set isinstance ord repr any "
@@ -81,6 +85,39 @@ class FormTest(unittest.TestCase):
             elif hasattr(builtins, word):
                 self.assertIn(word, BUILTINS, name)
             self.assertNotIn(word, BARRED, name)
+
+    def test_no_name_within_a_file_is_an_import_or_a_class_of_it(self):
+        for file, text in files().items():
+            tree = ast.parse(text)
+            taken = {told.name for node in ast.walk(tree) if isinstance(node, ast.ImportFrom) for told in node.names}
+            taken |= {node.name for node in ast.walk(tree) if isinstance(node, ast.ClassDef)}
+            told = {node.arg for node in ast.walk(tree) if isinstance(node, ast.arg)}
+            told |= {
+                node.id for node in ast.walk(tree) if isinstance(node, ast.Name) and isinstance(node.ctx, ast.Store)}
+            self.assertEqual(taken & told, set(), file)
+
+    def test_imports_go_one_way(self):
+        after = {}
+        for name, node in nodes(ast.ImportFrom):
+            after.setdefault(name, set()).add(node.module.split(".")[1] + ".py")
+        while after:
+            last = [name for name in after if not after[name] & set(after)]
+            self.assertNotEqual(last, [], after)
+            after = {name: after[name] for name in after if name not in last}
+
+    def test_methods_that_are_called(self):
+        builtin = set("append index split join".split())
+        own = {node.name for _, node in nodes(ast.FunctionDef)}
+        for name, node in nodes(ast.Call):
+            if isinstance(node.func, ast.Attribute):
+                self.assertIn(node.func.attr, builtin | own, (name, node.func.attr))
+
+    def test_keywords_of_builtins(self):
+        allowed = {("sorted", "key"), ("sorted", "reverse"), ("min", "key"), ("max", "key")}
+        for name, node in nodes(ast.Call):
+            if isinstance(node.func, ast.Name) and hasattr(builtins, node.func.id):
+                for keyword in node.keywords:
+                    self.assertIn((node.func.id, keyword.arg), allowed, name)
 
     def test_imports_name_the_file_that_defines_the_name(self):
         self.assertEqual(nodes(ast.Import), [])
