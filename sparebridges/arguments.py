@@ -1,6 +1,7 @@
 """What the functions of the package ask of their arguments."""
 
-from sparebridges.errors import InvalidBridges, InvalidEnds, InvalidPrices, InvalidWishes, NotASea, UnknownName
+from sparebridges.errors import InvalidBridges, InvalidEnds, InvalidForward, InvalidNumber, InvalidPrices
+from sparebridges.errors import InvalidWishes, NotASea, UnknownName
 from sparebridges.limits import MOST_BRIDGES, MOST_PRICE
 from sparebridges.seas import Sea
 
@@ -60,11 +61,15 @@ def check_island(sea, island):
         raise UnknownName(island)
 
 
+def are_two_islands(sea, one, other):
+    """Tell whether any two values are two different islands of this sea."""
+    return one in sea and other in sea and one != other
+
+
 def check_two_islands(sea, one, other):
     """Raise UnknownName if any two values are not two different islands of this sea."""
     check_island(sea, one)
-    check_island(sea, other)
-    if one == other:
+    if not are_two_islands(sea, one, other):
         raise UnknownName(other)
 
 
@@ -85,3 +90,23 @@ def check_ends(sea, ends):
     wrong = wrong_places(ends, len(sea), 0, None)
     if wrong:
         raise InvalidEnds(wrong[0])
+
+
+def check_number(number):
+    """Raise InvalidNumber if any value is no integer from 0 on."""
+    if not is_within(number, 0, None):
+        raise InvalidNumber(number)
+
+
+def wrong_in_table(bridges, forward):
+    """List the indexes of wrong elements of any value that should be a one-way table; None alone if of wrong form."""
+    if not isinstance(forward, tuple) or len(forward) != len(bridges):
+        return [None]
+    return [index for index, number in enumerate(bridges) if not is_within(forward[index], 0, number)]
+
+
+def check_forward(bridges, forward):
+    """Raise InvalidForward if any value is no one-way table for these bridges."""
+    wrong = wrong_in_table(bridges, forward)
+    if wrong:
+        raise InvalidForward(wrong[0])

@@ -1,7 +1,7 @@
 """How many new bridges end at each island, what they cost, and between which islands they go."""
 
 from sparebridges.arguments import check_ends, check_island, check_prices, check_wished_bridges, is_ends
-from sparebridges.lots import has, index_pairs, lacks_of, lots_of, parts
+from sparebridges.lots import fewest_in_lots, has, index_pairs, lacks_of, lots_of, parts, sum_in
 
 
 def end_range(sea, bridges, wishes, island):
@@ -39,33 +39,24 @@ def new_bridges(sea, bridges, wishes, ends=None):
     return bridges_with(ends, lacks) if are_enough(ends, lacks) else None
 
 
-def ends_in(lot, ends):
-    """Count the ends at the islands of a lot."""
-    return sum([number for index, number in enumerate(ends) if has(lot, index)])
-
-
 def are_enough(ends, lacks):
     """Tell whether there are new bridges with these ends that do."""
     total = sum(ends)
     if total & 1 == 1 or max(ends) * 2 > total:
         return False
-    return all([ends_in(lot, ends) >= lacks[lot] for lot in lots_of(len(ends))])
+    return all([sum_in(lot, ends) >= lacks[lot] for lot in lots_of(len(ends))])
 
 
 def least_ends(many, lacks, order):
     """List ends of best new bridges: as few as can be at the first island of the order, then at the next one.
 
-    Whatever the order is, taking away ends as long as no lot goes short leaves as many as the greatest sum of lacks of
-    lots without a common island. If this is odd, one more is needed, and the last island takes it.
+    Whatever the order is, the fewest that are enough for the lots are as many as the greatest sum of lacks of lots
+    without a common island. If this is odd, one more is needed, and the last island takes it.
     No island has more than all others together then. Look at the lots of the greatest sum. If one of them has the
     island, then what lies outside of it lacks as much as it: either this or the other lots ask the other islands for
     half of all ends.
     """
-    ends = [max(lacks)] * many
-    for index in order:
-        ends[index] = 0
-        short = [lacks[lot] - ends_in(lot, ends) for lot in lots_of(many) if has(lot, index)]
-        ends[index] = max([0, *short])
+    ends = fewest_in_lots(many, lacks, order)
     ends[order[-1]] += sum(ends) & 1
     return ends
 
@@ -92,6 +83,6 @@ def most_between(left, lacking, one, other):
     """Count how many bridges can be built between two islands so that the ends that are left remain enough."""
     many = len(left)
     both = [lot for lot in lots_of(many) if has(lot, one) and has(lot, other)]
-    spare = [(ends_in(lot, left) - lacking[lot]) // 2 for lot in both]
+    spare = [(sum_in(lot, left) - lacking[lot]) // 2 for lot in both]
     others = [sum(left) // 2 - left[index] for index in range(many) if index != one and index != other]
     return min([left[one], left[other], *spare, *others])

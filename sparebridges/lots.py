@@ -36,6 +36,21 @@ def islands_in(sea, lot):
     return tuple([island for index, island in enumerate(sea.islands) if has(lot, index)])
 
 
+def indexes_in(many, lot):
+    """Return the indexes of the islands of a lot, ascending."""
+    return tuple([index for index in range(many) if has(lot, index)])
+
+
+def in_order(tuples):
+    """Order tuples of indexes by how many indexes they have, then ascending."""
+    return sorted(tuples, key=lambda indexes: (len(indexes), indexes))
+
+
+def sum_in(lot, numbers):
+    """Add up what is told for the islands of a lot."""
+    return sum([number for index, number in enumerate(numbers) if has(lot, index)])
+
+
 def leading_out(many, bridges):
     """Count the bridges that lead out of every lot."""
     out = [0] * (1 << many)
@@ -76,6 +91,24 @@ def sum_over(family, numbers):
     return sum([numbers[lot] for lot in family])
 
 
+def greatest_family(many, lacks):
+    """Find lots that have no island in common, the sum of whose lacks is the greatest."""
+    return max(families_of(many), key=lambda family: sum_over(family, lacks))
+
+
 def greatest_sum(many, lacks):
     """Find the greatest sum of the lacks of lots that have no island in common, 0 if no lack is above 0."""
-    return max([sum_over(family, lacks) for family in families_of(many)])
+    return sum_over(greatest_family(many, lacks), lacks)
+
+
+def fewest_in_lots(many, lacks, order):
+    """List numbers for the islands: in each lot they are together at least its lack.
+
+    At each island, the first one of the order first, as many are taken away as can be so that no lot goes short.
+    """
+    numbers = [max(lacks)] * many
+    for index in order:
+        numbers[index] = 0
+        short = [lacks[lot] - sum_in(lot, numbers) for lot in lots_of(many) if has(lot, index)]
+        numbers[index] = max([0, *short])
+    return numbers

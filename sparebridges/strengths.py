@@ -1,7 +1,7 @@
 """How many bridges must fall until somebody is cut off, and where."""
 
 from sparebridges.arguments import check_bridges, check_sea, check_two_islands, check_wished_bridges
-from sparebridges.lots import has, islands_in, lacks_of, leading_out, lots_of, parts
+from sparebridges.lots import has, in_order, indexes_in, islands_in, lacks_of, leading_out, lots_of, parts
 
 
 def strength(sea, bridges):
@@ -40,8 +40,7 @@ def least_cuts(sea, bridges):
     out = leading_out(many, bridges)
     least = min([out[lot] for lot in lots_of(many)])
     cuts = [indexes_in(many, lot) for lot in lots_of(many) if has(lot, 0) and out[lot] == least]
-    ordered = sorted(cuts, key=lambda indexes: (len(indexes), indexes))
-    return tuple([tuple([sea.islands[index] for index in indexes]) for indexes in ordered])
+    return tuple([tuple([sea.islands[index] for index in indexes]) for indexes in in_order(cuts)])
 
 
 def tree(sea, bridges):
@@ -69,8 +68,3 @@ def is_fulfilled(sea, bridges, wishes):
 def least_parting(many, out, one, other):
     """Return the least number told for a lot that parts the islands with these indexes."""
     return min([out[lot] for lot in lots_of(many) if parts(lot, one, other)])
-
-
-def indexes_in(many, lot):
-    """Return the indexes of the islands of a lot, ascending."""
-    return tuple([index for index in range(many) if has(lot, index)])

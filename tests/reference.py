@@ -111,3 +111,81 @@ def ends_do(sea, bridges, wishes, ends):
         return False
     at = dict(zip(sea.islands, ends))
     return all(sum(at[island] for island in lot) >= lack(sea, bridges, wishes, lot) for lot in lots(sea))
+
+
+def leading_in(sea, bridges, forward, lot):
+    """How many bridges lead into a lot by a one-way table."""
+    total = 0
+    for (one, other), number, there in zip(sea.pairs, bridges, forward):
+        if other in lot and one not in lot:
+            total += there
+        if one in lot and other not in lot:
+            total += number - there
+    return total
+
+
+def leading_off(sea, bridges, forward, lot):
+    """How many bridges lead out of a lot by a one-way table."""
+    return leading_in(sea, bridges, forward, tuple(island for island in sea.islands if island not in lot))
+
+
+def strong_by(sea, bridges, forward):
+    """The greatest k for which a one-way table is k-strong."""
+    return min(leading_in(sea, bridges, forward, lot) for lot in lots(sea))
+
+
+def ways_in(sea, bridges, forward):
+    return tuple(leading_in(sea, bridges, forward, (island,)) for island in sea.islands)
+
+
+def tables(bridges):
+    """All one-way tables for bridges."""
+    return itertools.product(*[range(number + 1) for number in bridges])
+
+
+def ways_in_do(sea, bridges, strong, ins):
+    """Whether a table that is so strong has these ways in, by point 13."""
+    if sum(ins) != sum(bridges):
+        return False
+    at = dict(zip(sea.islands, ins))
+    for lot in lots(sea):
+        between = sum(number for (one, other), number in zip(sea.pairs, bridges) if one in lot and other in lot)
+        if sum(at[island] for island in lot) < between + strong:
+            return False
+    return True
+
+
+def with_arrows(bridges, forward, new):
+    """The bridges and the one-way table with new one-way bridges."""
+    return (
+        tuple(number + there + back for number, (there, back) in zip(bridges, new)),
+        tuple(number + there for number, (there, back) in zip(forward, new)))
+
+
+def arrows_by_sums(sea, bridges, forward, strong):
+    """The least number of new one-way bridges, by the two sums of point 18."""
+    sums_of = []
+    for leading_by in (leading_in, leading_off):
+        lacks = {lot: strong - leading_by(sea, bridges, forward, lot) for lot in lots(sea)}
+        sums_of.append(max(sum(lacks[lot] for lot in family) for family in families(sea.islands, sea.islands)))
+    return max(0, *sums_of)
+
+
+def arrows_by_search(sea, bridges, forward, strong, most):
+    """The least number of new one-way bridges, by trying them all; None if more than so many are needed."""
+    ways = [(one, other) for one in sea.islands for other in sea.islands if one != other]
+    rows = []
+    for lot in lots(sea):
+        lacking = strong - leading_in(sea, bridges, forward, lot)
+        if lacking > 0:
+            rows.append((lacking, [at for at, (one, other) in enumerate(ways) if other in lot and one not in lot]))
+    for total in range(most + 1):
+        for new in sums(len(ways), total):
+            if all(sum(new[at] for at in places) >= lacking for lacking, places in rows):
+                return total
+    return None
+
+
+def strength_at(sea, start, growth, step):
+    """The strength of the sea at a step of bridges that grow."""
+    return min(strengths(sea, tuple(begin + step * more for begin, more in zip(start, growth))))

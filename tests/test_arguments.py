@@ -5,9 +5,13 @@ import itertools
 import unittest
 
 from sparebridges import errors
+from sparebridges.arrows import arrows_needed, new_arrows
 from sparebridges.closing import closable
 from sparebridges.ends import are_ends, cheapest, end_range, new_bridges
+from sparebridges.growth import grown
 from sparebridges.needed import for_all, joined, needed
+from sparebridges.offers import fulfilling
+from sparebridges.oneway import in_range, ins_of, most_ways, one_way, ways_of
 from sparebridges.seas import Sea
 from sparebridges.strengths import between, cut, is_fulfilled, least_cuts, strength, tree
 from tests.samples import BAY, MOST, RING, SEAS, STAR, STRAIT
@@ -18,29 +22,41 @@ SIGNATURES = {
     strength: BRIDGES, between: BRIDGES + TWO, cut: BRIDGES + TWO, least_cuts: BRIDGES, tree: BRIDGES,
     is_fulfilled: WISHED, needed: WISHED, joined: BRIDGES, for_all: BRIDGES, end_range: WISHED + ("island",),
     are_ends: WISHED + ("value",), cheapest: WISHED + ("prices",), new_bridges: WISHED + ("ends",),
-    closable: WISHED + TWO,
+    closable: WISHED + TWO, fulfilling: WISHED + ("offers",), most_ways: BRIDGES,
+    one_way: BRIDGES + ("strong", "ins"), in_range: BRIDGES + ("strong", "island"), ways_of: BRIDGES + ("forward",),
+    ins_of: BRIDGES + ("forward",), arrows_needed: BRIDGES + ("forward", "strong"),
+    new_arrows: BRIDGES + ("forward", "strong"), grown: ("sea", "start", "growth"),
 }
 MODULES = {
     "strengths": [strength, between, cut, least_cuts, tree, is_fulfilled], "needed": [needed, joined, for_all],
-    "ends": [end_range, are_ends, cheapest, new_bridges], "closing": [closable],
+    "ends": [end_range, are_ends, cheapest, new_bridges], "closing": [closable], "offers": [fulfilling],
+    "oneway": [most_ways, one_way, in_range, ways_of, ins_of], "arrows": [arrows_needed, new_arrows],
+    "growth": [grown],
 }
 # These do for RING, and with STAR they are too much.
 GOOD = {
     "sea": BAY, "bridges": RING, "wishes": 4, "one": "elm", "other": "yew", "island": "oak", "value": (1, 1, 1, 1),
-    "prices": (3, 1, 0, 2), "ends": (2, 2, 2, 2),
+    "prices": (3, 1, 0, 2), "ends": (2, 2, 2, 2), "offers": (("oak", "ash", 3), ("elm", "yew", MOST)), "strong": 2,
+    "ins": (2, 2, 2, 2), "forward": (1, 2, 0, 1, 0, 2), "start": RING, "growth": (1, 0, 0, 9, 0, 0),
 }
+# Beside a one-way table, so that each of its elements has the same bounds.
+TWICE = (2,) * 6
 NO_TUPLES = [value for value in ANYTHING if not isinstance(value, tuple)]
 NO_INTEGERS = [value for value in ANYTHING if not isinstance(value, int) or isinstance(value, bool)]
 # What is no element, with an element in its place, for each sequence: the least and the greatest ones, then the error.
 SEQUENCES = {
     "bridges": (0, MOST, "InvalidBridges"), "wishes": (2, MOST, "InvalidWishes"),
-    "prices": (0, 10 ** 6, "InvalidPrices"), "ends": (0, None, "InvalidEnds"),
+    "prices": (0, 10 ** 6, "InvalidPrices"), "ends": (0, None, "InvalidEnds"), "ins": (0, None, "InvalidEnds"),
+    "forward": (0, 2, "InvalidForward"), "start": (0, 99, "InvalidBridges"), "growth": (0, 9, "InvalidGrowth"),
 }
+# They have an element for each island, not for each pair; and two of them may be left out.
+FOR_ISLANDS, LEFT_OUT = ("prices", "ends", "ins"), ("ends", "ins")
 UNKNOWN = [*ANYTHING, "Ash", "ASH", " ash", "ash ", "as", "ashe", "ash elm", ("ash",), ["ash"], 0, 1, BAY]
 
 
 def good_for(function):
-    return {name: GOOD[name] for name in SIGNATURES[function]}
+    names = SIGNATURES[function]
+    return {name: TWICE if name == "bridges" and "forward" in names else GOOD[name] for name in names}
 
 
 def bad_elements(name):
@@ -56,7 +72,7 @@ def wrong_sequences(name, many):
     for value in [*NO_TUPLES, list(right), [], str(right), {3: 3}, iter(right), BAY]:
         # Some integers are wished strengths, and None is what ends may be, too.
         good = name == "wishes" and value.__class__ is int and 2 <= value <= MOST
-        if not good and not (name == "ends" and value is None):
+        if not good and not (name in LEFT_OUT and value is None):
             yield value, None
     for value in [(), right[1:], right + right[:1], right * 2, (None,) * (many - 1), (True,) * (many + 1)]:
         yield value, None
@@ -74,7 +90,7 @@ def wrong_values(name, sea=BAY):
         for value in [*ANYTHING, str(BAY), BAY.islands, BAY.pairs, Sea, [BAY], (BAY,)]:
             yield value, "NotASea", value
     elif name in SEQUENCES:
-        many = len(sea) if name in ("prices", "ends") else len(sea.pairs)
+        many = len(sea) if name in FOR_ISLANDS else len(sea.pairs)
         for value, index in wrong_sequences(name, many):
             yield value, SEQUENCES[name][2], index
         if name == "wishes":
@@ -86,6 +102,39 @@ def wrong_values(name, sea=BAY):
         if name == "other":
             yield "elm", "UnknownName", "elm"
             yield "".join(["e", "lm"]), "UnknownName", "elm"
+    elif name == "strong":
+        for value in [*NO_INTEGERS, -1, -2, -MOST, -10 ** 79, "2", (2,), [2]]:
+            yield value, "InvalidNumber", value
+    elif name == "offers":
+        for value, index in wrong_offers():
+            yield value, "InvalidOffers", index
+
+
+def wrong_offers():
+    """Values that are no offers in BAY, each with its index."""
+    right = ("elm", "oak", 1)
+    for value in [*NO_TUPLES, [right], [], {right: 1}, iter([right]), BAY]:
+        yield value, None
+    for bad in bad_offers():
+        for before in range(6):
+            for behind in (0, 1, 9):
+                yield (right,) * before + (bad,) + (right,) * behind, before
+        yield (right, bad, bad), 1
+        yield (right,) * 6 + (bad, right), 6
+    for many in (7, 8, 40):
+        yield (right,) * many, 6
+
+
+def bad_offers():
+    """Values that are no offer in BAY."""
+    yield from [*ANYTHING, ["elm", "oak", 1], {"elm": 1, "oak": 2, "ash": 3}, "elm oak 1", "elm"]
+    yield from [("elm", "oak"), ("elm", "oak", 1, 1), ("oak",), (("elm", "oak"), 1), ("elm", "oak", (1,))]
+    for bad in UNKNOWN:
+        yield from [(bad, "elm", 1), ("elm", bad, 1), (bad, bad, 1)]
+    for island in BAY.islands:
+        yield island, "".join(list(island)), 1
+    for bad in [*NO_INTEGERS, 0, -1, -2, MOST + 1, 10 ** 79, -MOST, "1"]:
+        yield "elm", "oak", bad
 
 
 def few_wrong_values(name):
@@ -145,12 +194,41 @@ class WrongArgumentTest(ArgumentsCase):
 
     def test_no_ends(self):
         self.check("ends")
+        self.check("ins")
+
+    def test_no_offers(self):
+        self.check("offers")
+
+    def test_no_number_of_ways(self):
+        self.check("strong")
+
+    def test_no_one_way_table(self):
+        self.check("forward")
+
+    def test_no_one_way_table_for_these_bridges(self):
+        bridges, right = (3, 0, MOST, 1, 2, 9), (3, 0, MOST, 0, 1, 9)
+        for function in SIGNATURES:
+            if "forward" in SIGNATURES[function]:
+                told = {**good_for(function), "bridges": bridges, "forward": right}
+                function(**told)
+                for place in range(6):
+                    more = (*right[:place], bridges[place] + 1, *right[place + 1:])
+                    self.assert_raises(function, {**told, "forward": more}, "InvalidForward", place)
+                    self.assert_raises(function, {**told, "forward": more[:5] + (99,)}, "InvalidForward", min(place, 5))
+                self.assert_raises(function, {**told, "forward": bridges + (0,)}, "InvalidForward", None)
+
+    def test_no_growing_bridges(self):
+        self.check("start")
+        self.check("growth")
 
     def test_wrong_sequences_in_seas_of_each_size(self):
         for sea, name in itertools.product(SEAS[::2], SEQUENCES):
-            function = {"bridges": strength, "wishes": needed, "prices": cheapest, "ends": new_bridges}[name]
-            many = len(sea) if name in ("prices", "ends") else len(sea.pairs)
-            good = {"sea": sea, "bridges": (1,) * len(sea.pairs), "wishes": 2, "prices": (1,) * len(sea)}
+            function = {
+                "bridges": strength, "wishes": needed, "prices": cheapest, "ends": new_bridges, "ins": one_way,
+                "forward": ways_of, "start": grown, "growth": grown}[name]
+            many = len(sea) if name in FOR_ISLANDS else len(sea.pairs)
+            twos = (2,) * len(sea.pairs)
+            good = {"sea": sea, "bridges": twos, "wishes": 2, "strong": 1, "start": twos, "growth": twos}
             told = {key: good.get(key) for key in SIGNATURES[function]}
             for value, index in wrong_sequences(name, many):
                 self.assert_raises(function, {**told, name: value}, SEQUENCES[name][2], index)
@@ -177,7 +255,7 @@ class FirstErrorTest(ArgumentsCase):
             for at, name in enumerate(names):
                 for value, wrong, given in wrong_from[name]:
                     others = {later: told[0][0] for later, told in wrong_from.items() if told}
-                    earlier = {before: GOOD[before] for before in names[:at]}
+                    earlier = {before: good_for(function)[before] for before in names[:at]}
                     told = {key: {**good_for(function), **others, name: value, **earlier}[key] for key in names}
                     self.assert_raises(function, told, wrong, given)
 
@@ -196,6 +274,18 @@ class FirstErrorTest(ArgumentsCase):
         for island in BAY.islands:
             self.assert_raises(closable, {**weak, "one": island, "other": island}, "UnknownName", island)
 
+    def test_too_few_ways_come_last(self):
+        weak = {"sea": BAY, "bridges": STAR, "strong": 2, "ins": None, "island": "yew"}
+        for function in (one_way, in_range):
+            told = {name: weak[name] for name in SIGNATURES[function]}
+            for strong in (2, 3, MOST, 10 ** 79):
+                self.assert_raises(function, {**told, "strong": strong}, "TooWeak", 1)
+            for name in told:
+                for value, wrong, given in few_wrong_values(name):
+                    self.assert_raises(function, {**told, name: value}, wrong, given)
+        for ins in [(9, 0, 0, 0), (0, 0, 0, 0), (3, 2, 2, 2), (10 ** 79,) * 4]:
+            self.assert_raises(one_way, {"sea": BAY, "bridges": STAR, "strong": 2, "ins": ins}, "TooWeak", 1)
+
     def test_a_value_is_no_wrong_argument(self):
         for value in ANYTHING:
             self.assertIs(are_ends(BAY, RING, 4, value), False)
@@ -212,7 +302,7 @@ class RightArgumentTest(unittest.TestCase):
             self.assertEqual(tuple(one.name for one in told), names)
             self.assertEqual({one.kind for one in told}, {inspect.Parameter.POSITIONAL_OR_KEYWORD})
             self.assertEqual([one.default for one in told if one.default is not one.empty],
-                             [None] if function is new_bridges else [])
+                             [None] if function in (new_bridges, one_way) else [])
 
     def test_functions_are_defined_in_their_files(self):
         for module, functions in MODULES.items():
@@ -234,7 +324,9 @@ class RightArgumentTest(unittest.TestCase):
                 told = {
                     "sea": sea, "bridges": bridges, "wishes": wishes, "one": one, "other": other, "island": one,
                     "value": (0,) * len(sea), "prices": (0, 10 ** 6, 0, 10 ** 6, 0)[:len(sea)],
-                    "ends": (0, 10 ** 79, 0, 10 ** 79, 0)[:len(sea)],
+                    "ends": (0, 10 ** 79, 0, 10 ** 79, 0)[:len(sea)], "strong": 0, "forward": bridges,
+                    "ins": (0, 10 ** 79, 0, 10 ** 79, 0)[:len(sea)], "start": tuple(min(99, has) for has in bridges),
+                    "growth": tuple(min(9, has) for has in bridges), "offers": ((one, other, MOST), (other, one, 1)) * 3,
                 }
                 for function, names in SIGNATURES.items():
                     try:
@@ -248,9 +340,13 @@ class RightArgumentTest(unittest.TestCase):
             for bridges, wishes in [(RING, 4), (STAR, 3), (RING, (2, 4, 3, 2, 2, 3)), (STAR, (3, 3, 3, 2, 2, 2))]:
                 answers = []
                 for _ in range(2):
-                    told = {**good_for(function), "sea": Sea.read(str(BAY)), "bridges": tuple(list(bridges))}
+                    told = {**good_for(function), "sea": Sea.read(str(BAY))}
+                    if "bridges" in names and "forward" not in names:
+                        told["bridges"] = tuple(list(bridges))
                     if "wishes" in names:
                         told["wishes"] = tuple(list(wishes)) if isinstance(wishes, tuple) else wishes
+                    if "strong" in names:
+                        told["strong"] = 1
                     answers.append(function(**told))
                 self.assertEqual(repr(answers[0]), repr(answers[1]))
                 self.assertTrue(plain(answers[0]), (function, answers[0]))
@@ -275,6 +371,9 @@ class RightArgumentTest(unittest.TestCase):
         for one, other, number in tree(BAY, STAR):
             self.assertEqual(between(BAY, STAR, one, other), number)
         self.assertEqual(new_bridges(STRAIT, new_bridges(STRAIT, (0,), 9), 9), (0,))
+        table = one_way(BAY, STAR, 1)
+        self.assertEqual(one_way(BAY, STAR, 1, ins_of(BAY, STAR, table)), table)
+        self.assertEqual(arrows_needed(BAY, STAR, table, most_ways(BAY, STAR)), 0)
 
 
 if __name__ == "__main__":

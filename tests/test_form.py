@@ -21,6 +21,10 @@ DEFINED = {
     "needed": ["needed", "joined", "for_all"],
     "ends": ["end_range", "are_ends", "cheapest", "new_bridges"],
     "closing": ["closable"],
+    "offers": ["fulfilling"],
+    "oneway": ["most_ways", "one_way", "in_range", "ways_of", "ins_of"],
+    "arrows": ["arrows_needed", "new_arrows"],
+    "growth": ["grown"],
 }
 BUILTINS = set(
     "len range enumerate zip min max sum abs sorted reversed int str bool list tuple dict set isinstance ord repr any "
