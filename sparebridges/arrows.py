@@ -2,7 +2,7 @@
 
 from sparebridges.arguments import check_bridges, check_forward, check_number, check_sea
 from sparebridges.lots import fewest_in_lots, greatest_sum, has, index_pairs, lots_of, sum_in
-from sparebridges.tables import leading_into
+from sparebridges.tables import one_way_lacks
 
 
 def arrows_needed(sea, bridges, forward, strong):
@@ -16,9 +16,10 @@ def arrows_needed(sea, bridges, forward, strong):
 def new_arrows(sea, bridges, forward, strong):
     """Return new one-way bridges with which this one-way table is so strong, as few as can be.
 
-    Told is first at how many of them each island is the goal, and the start, so that these do for each lot. As many as
-    can be are then led from each island to each other one. What forbids one more there (no start, no goal, or a lot
-    with both islands that needs all others) forbids it still when others have been led, so that one look is enough.
+    First it is settled of how many of them each island is the goal, and of how many the start, so that each lot has
+    enough of both. Then as many as can be are led from each island to each other one. What forbids one more there (no
+    start, no goal, or a lot with both islands that needs all that is left) forbids it still when others have been led,
+    so that one look is enough.
     """
     number = arrows_needed(sea, bridges, forward, strong)
     many = len(sea)
@@ -42,22 +43,11 @@ def check_arrows(sea, bridges, forward, strong):
     check_number(strong)
 
 
-def one_way_lacks(many, bridges, forward, strong):
-    """Tell for every lot how many more bridges must lead into it, and how many more out of it, by a one-way table."""
-    into, every = leading_into(many, bridges, forward), (1 << many) - 1
-    lacks_in, lacks_out = [0] * (1 << many), [0] * (1 << many)
-    for lot in lots_of(many):
-        lacks_in[lot] = strong - into[lot]
-        # What leads out of a lot leads into all islands that are not in it.
-        lacks_out[lot] = strong - into[every - lot]
-    return lacks_in, lacks_out
-
-
 def spread(many, lacks, number):
     """List numbers for the islands, so many in all, that are together at least the lack in each lot.
 
-    So many are enough: the fewest are as many as the greatest sum of these lacks, or else as two lots ask for together
-    in the other direction.
+    So many are enough: the fewest are as many as the greatest sum of these lacks, or no more than what two lots lack
+    together in the other direction.
     """
     numbers = fewest_in_lots(many, lacks, list(range(many)))
     numbers[0] += number - sum(numbers)

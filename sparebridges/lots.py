@@ -71,11 +71,15 @@ def most_wished(many, wishes):
     return most
 
 
+def wish_of_each(bridges, wishes):
+    """Return wished strengths, be they an integer or a tuple, as the tuple with one for each pair."""
+    return (wishes,) * len(bridges) if isinstance(wishes, int) else wishes
+
+
 def lacks_of(many, bridges, wishes):
     """Tell the lack of every lot for wished strengths, be they an integer or a tuple."""
-    if isinstance(wishes, int):
-        wishes = (wishes,) * len(bridges)
-    return [wish - out for wish, out in zip(most_wished(many, wishes), leading_out(many, bridges))]
+    most = most_wished(many, wish_of_each(bridges, wishes))
+    return [wish - out for wish, out in zip(most, leading_out(many, bridges))]
 
 
 def families_of(many):

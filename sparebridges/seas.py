@@ -20,6 +20,12 @@ def pairs_of(islands):
     return tuple([(one, other) for at, one in enumerate(islands) for other in islands[at + 1:]])
 
 
+def islands_from(text):
+    """Return the words behind the first one if any value begins like the text of a sea, otherwise nothing."""
+    words = text.split(" ") if isinstance(text, str) else []
+    return tuple(words[1:]) if words[:1] == ["islands"] else ()
+
+
 class Sea:
     """Two to five islands in an order."""
 
@@ -31,11 +37,8 @@ class Sea:
     @classmethod
     def read(cls, text):
         """Return the sea with this text."""
-        words = text.split(" ") if isinstance(text, str) else []
-        if words[:1] != ["islands"]:
-            raise InvalidText(text)
         try:
-            return cls(tuple(words[1:]))
+            return cls(islands_from(text))
         except InvalidIslands:
             raise InvalidText(text) from None
 

@@ -23,6 +23,17 @@ def leading_into(many, bridges, forward):
     return into
 
 
+def one_way_lacks(many, bridges, forward, strong):
+    """Tell for every lot how many more bridges must lead into it, and how many more out of it, by a one-way table."""
+    into, every = leading_into(many, bridges, forward), (1 << many) - 1
+    lacks_in, lacks_out = [0] * (1 << many), [0] * (1 << many)
+    for lot in lots_of(many):
+        lacks_in[lot] = strong - into[lot]
+        # What leads out of a lot leads into all islands that are not in it.
+        lacks_out[lot] = strong - into[every - lot]
+    return lacks_in, lacks_out
+
+
 def leading_into_with(many, bridges, ins):
     """Count the bridges that lead into every lot by any one-way table that has these ways in.
 

@@ -6,7 +6,10 @@ import unittest
 
 from sparebridges import errors
 from sparebridges.arrows import arrows_needed, new_arrows
+from sparebridges.certificates import certify_arrows, certify_between, certify_ends, certify_needed, certify_ways
+from sparebridges.checker import accepts
 from sparebridges.closing import closable
+from sparebridges.coasts import Coast
 from sparebridges.ends import are_ends, cheapest, end_range, new_bridges
 from sparebridges.growth import grown
 from sparebridges.needed import for_all, joined, needed
@@ -25,19 +28,24 @@ SIGNATURES = {
     closable: WISHED + TWO, fulfilling: WISHED + ("offers",), most_ways: BRIDGES,
     one_way: BRIDGES + ("strong", "ins"), in_range: BRIDGES + ("strong", "island"), ways_of: BRIDGES + ("forward",),
     ins_of: BRIDGES + ("forward",), arrows_needed: BRIDGES + ("forward", "strong"),
-    new_arrows: BRIDGES + ("forward", "strong"), grown: ("sea", "start", "growth"),
+    new_arrows: BRIDGES + ("forward", "strong"), grown: ("sea", "start", "growth"), Coast: WISHED,
+    certify_between: BRIDGES + TWO, certify_needed: WISHED, certify_ends: WISHED + ("island",),
+    certify_ways: BRIDGES + ("strong",), certify_arrows: BRIDGES + ("forward", "strong"),
+    accepts: ("claim", "certificate"),
 }
 MODULES = {
     "strengths": [strength, between, cut, least_cuts, tree, is_fulfilled], "needed": [needed, joined, for_all],
     "ends": [end_range, are_ends, cheapest, new_bridges], "closing": [closable], "offers": [fulfilling],
     "oneway": [most_ways, one_way, in_range, ways_of, ins_of], "arrows": [arrows_needed, new_arrows],
-    "growth": [grown],
+    "growth": [grown], "coasts": [Coast], "checker": [accepts],
+    "certificates": [certify_between, certify_needed, certify_ends, certify_ways, certify_arrows],
 }
 # These do for RING, and with STAR they are too much.
 GOOD = {
     "sea": BAY, "bridges": RING, "wishes": 4, "one": "elm", "other": "yew", "island": "oak", "value": (1, 1, 1, 1),
     "prices": (3, 1, 0, 2), "ends": (2, 2, 2, 2), "offers": (("oak", "ash", 3), ("elm", "yew", MOST)), "strong": 2,
     "ins": (2, 2, 2, 2), "forward": (1, 2, 0, 1, 0, 2), "start": RING, "growth": (1, 0, 0, 9, 0, 0),
+    "claim": ("ways", str(BAY), RING, 1), "certificate": (1, 0, 1, 1, 0, 1),
 }
 # Beside a one-way table, so that each of its elements has the same bounds.
 TWICE = (2,) * 6
@@ -150,6 +158,13 @@ def plain(value):
     return value is None or value.__class__ in (str, bool, int)
 
 
+def seen(answer):
+    """An answer, or what a coast tells of itself, since no two of these are equal."""
+    if isinstance(answer, Coast):
+        return (answer.sea.islands, answer.bridges, answer.wishes, answer.built, answer.changes, answer.lacking())
+    return answer
+
+
 class ArgumentsCase(unittest.TestCase):
     def assert_raises(self, function, told, wrong, given):
         """All arguments by position, by name, and some so and some so: each time this error."""
@@ -234,7 +249,7 @@ class WrongArgumentTest(ArgumentsCase):
                 self.assert_raises(function, {**told, name: value}, SEQUENCES[name][2], index)
 
     def test_the_same_island_twice(self):
-        for function in (between, cut, closable):
+        for function in (between, cut, closable, certify_between):
             for island in BAY.islands:
                 told = {**good_for(function), "one": island, "other": island}
                 self.assert_raises(function, told, "UnknownName", island)
@@ -260,7 +275,7 @@ class FirstErrorTest(ArgumentsCase):
                     self.assert_raises(function, told, wrong, given)
 
     def test_the_first_of_both_islands(self):
-        for function in (between, cut, closable):
+        for function in (between, cut, closable, certify_between):
             for one, other in itertools.product(["oaks", None, 5, "Elm"], repeat=2):
                 told = {**good_for(function), "one": one, "other": other}
                 self.assert_raises(function, told, "UnknownName", one)
@@ -312,9 +327,9 @@ class RightArgumentTest(unittest.TestCase):
     def test_by_position_and_by_name(self):
         for function in SIGNATURES:
             told = good_for(function)
-            answer = function(*told.values())
-            self.assertEqual(function(**told), answer)
-            self.assertEqual(function(**{name: told[name] for name in reversed(told)}), answer)
+            answer = seen(function(*told.values()))
+            self.assertEqual(seen(function(**told)), answer)
+            self.assertEqual(seen(function(**{name: told[name] for name in reversed(told)})), answer)
 
     def test_least_and_greatest_elements(self):
         for sea in SEAS:
@@ -327,10 +342,11 @@ class RightArgumentTest(unittest.TestCase):
                     "ends": (0, 10 ** 79, 0, 10 ** 79, 0)[:len(sea)], "strong": 0, "forward": bridges,
                     "ins": (0, 10 ** 79, 0, 10 ** 79, 0)[:len(sea)], "start": tuple(min(99, has) for has in bridges),
                     "growth": tuple(min(9, has) for has in bridges), "offers": ((one, other, MOST), (other, one, 1)) * 3,
+                    "claim": ("no ways", str(sea), bridges, 10 ** 79), "certificate": (one,),
                 }
                 for function, names in SIGNATURES.items():
                     try:
-                        self.assertTrue(plain(function(**{name: told[name] for name in names})))
+                        self.assertTrue(plain(seen(function(**{name: told[name] for name in names}))))
                     except errors.TooWeak as error:
                         self.assertEqual((function, sum(bridges)), (closable, 0))
                         self.assertTrue(plain(error.given))
@@ -340,23 +356,26 @@ class RightArgumentTest(unittest.TestCase):
             for bridges, wishes in [(RING, 4), (STAR, 3), (RING, (2, 4, 3, 2, 2, 3)), (STAR, (3, 3, 3, 2, 2, 2))]:
                 answers = []
                 for _ in range(2):
-                    told = {**good_for(function), "sea": Sea.read(str(BAY))}
+                    told = good_for(function)
+                    if "sea" in names:
+                        told["sea"] = Sea.read(str(BAY))
                     if "bridges" in names and "forward" not in names:
                         told["bridges"] = tuple(list(bridges))
                     if "wishes" in names:
                         told["wishes"] = tuple(list(wishes)) if isinstance(wishes, tuple) else wishes
                     if "strong" in names:
                         told["strong"] = 1
-                    answers.append(function(**told))
+                    answers.append(seen(function(**told)))
                 self.assertEqual(repr(answers[0]), repr(answers[1]))
                 self.assertTrue(plain(answers[0]), (function, answers[0]))
 
     def test_nothing_is_changed(self):
         sea, listed, within = Sea.read(str(BAY)), [1, 2, 3], (1, [2, 3], {"a": nested(3)}, 1, 1, 1)
         for function, names in SIGNATURES.items():
-            function(**{**good_for(function), "sea": sea})
+            told = good_for(function)
+            function(**{name: sea if name == "sea" else told[name] for name in names})
             for name, value in itertools.product(names, (listed, within)):
-                if name != "value":
+                if name not in ("value", "claim", "certificate"):
                     self.assertRaises(errors.WrongName if name in ("one", "other", "island") else errors.WrongValue,
                                       function, **{**good_for(function), name: value})
         self.assertEqual([listed, within], [[1, 2, 3], (1, [2, 3], {"a": nested(3)}, 1, 1, 1)])

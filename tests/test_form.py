@@ -25,6 +25,10 @@ DEFINED = {
     "oneway": ["most_ways", "one_way", "in_range", "ways_of", "ins_of"],
     "arrows": ["arrows_needed", "new_arrows"],
     "growth": ["grown"],
+    "coasts": ["Coast"],
+    "books": ["Book"],
+    "checker": ["accepts"],
+    "certificates": ["certify_between", "certify_needed", "certify_ends", "certify_ways", "certify_arrows"],
 }
 BUILTINS = set(
     "len range enumerate zip min max sum abs sorted reversed int str bool list tuple dict set isinstance ord repr any "
@@ -85,7 +89,8 @@ class FormTest(unittest.TestCase):
         for name, node in nodes(ast.Name, ast.arg):
             word = node.arg if isinstance(node, ast.arg) else node.id
             if isinstance(node, ast.arg) or isinstance(node.ctx, ast.Store):
-                self.assertFalse(hasattr(builtins, word), (name, word))
+                # A run of examples leaves a name "_" among the builtins.
+                self.assertFalse(hasattr(builtins, word) and word != "_", (name, word))
             elif hasattr(builtins, word):
                 self.assertIn(word, BUILTINS, name)
             self.assertNotIn(word, BARRED, name)
@@ -140,14 +145,43 @@ class FormTest(unittest.TestCase):
         for name, node in nodes(ast.Constant):
             self.assertNotIsInstance(node.value, float, name)
 
-    def test_is_stands_beside_none_true_and_false(self):
+    def test_is_stands_beside_none_true_false_and_self(self):
         for name, node in nodes(ast.Compare):
             for op, right in zip(node.ops, node.comparators):
                 if isinstance(op, (ast.Is, ast.IsNot)):
-                    self.assertTrue(ast.unparse(right) in ("None", "True", "False"), name)
+                    kept = ast.unparse(right) in ("None", "True", "False")
+                    self.assertTrue(kept or ast.unparse(node) == "self is other", name)
+
+    def test_nothing_is_read_off_a_class(self):
+        # Where this is so, self may stand beside "is".
+        classes = {node.name for _, node in nodes(ast.ClassDef)}
+        for name, node in nodes(ast.Attribute):
+            self.assertNotIn(ast.unparse(node.value), classes | {"super()"}, name)
+
+    def test_a_class_with_items_says_that_it_is_not_iterated_over(self):
+        for name, node in nodes(ast.ClassDef):
+            methods = {row.name: row for row in node.body if isinstance(row, ast.FunctionDef)}
+            if "__getitem__" in methods:
+                rows = methods["__iter__"].body
+                self.assertEqual([len(rows), ast.unparse(rows[0])[:16]], [1, "raise TypeError("], name)
+            self.assertEqual("__enter__" in methods, "__exit__" in methods, name)
+
+    def test_rows_of_exit(self):
+        row = re.compile(r"(\w+ = self\.\w+|(self|\w+)\.\w+ = \w+\.\w+)")
+        for name, node in nodes(ast.FunctionDef):
+            if node.name == "__exit__":
+                rows = [ast.unparse(each) for each in ast.walk(node) if isinstance(each, ast.stmt)][1:]
+                for text in rows:
+                    kept = row.fullmatch(text) or text.startswith("if kind is not None:")
+                    self.assertTrue(kept, (name, text))
+
+    def test_a_table_of_functions_is_called_by_a_name(self):
+        for name, node in nodes(ast.Call):
+            self.assertIsInstance(node.func, (ast.Name, ast.Attribute), (name, node.lineno))
 
     def test_decorators_and_double_underscores(self):
-        allowed = "__init__ __eq__ __str__ __len__ __contains__ __getitem__ __setitem__ __iter__ __enter__ __exit__"
+        allowed = (
+            "__init__ __eq__ __str__ __len__ __bool__ __contains__ __getitem__ __setitem__ __iter__ __enter__ __exit__")
         for name, node in nodes(ast.FunctionDef):
             for decorator in node.decorator_list:
                 self.assertIn(ast.unparse(decorator), ("property", "classmethod", "staticmethod"), name)
