@@ -11,8 +11,8 @@ class Book:
     """A book of seas under names, with wishes in an order."""
 
     def __init__(self):
-        # A state is a pair: a dict of the seas, which is never changed itself, and the wishes. The last one is that of
-        # now.
+        # A state is a pair: the seas by their names, in a dict that is never changed itself, and the wishes. The last
+        # one is that of now.
         self._states = (({}, ()),)
 
     def __eq__(self, other):
@@ -58,21 +58,31 @@ class Book:
         if not is_name(at):
             raise InvalidName(at)
         check_sea(worth)
-        self._change({**self._states[-1][0], at: worth}, self.wishes)
+        seas, wishes = self._states[-1]
+        for index, wish in enumerate(wishes):
+            # The wishes for other seas hold as they did before.
+            if wish[1] == at and not holds(worth, wish):
+                raise Broken(index)
+        self._change({**seas, at: worth}, wishes)
 
     def wish(self, wish):
         """Make a wish more, behind the others."""
         if not is_wish(wish):
             raise InvalidWish(wish)
-        if wish[1] not in self:
+        seas, wishes = self._states[-1]
+        if wish[1] not in seas:
             raise UnknownName(wish[1])
-        self._change(self._states[-1][0], (*self.wishes, wish))
+        # The wishes ahead of it hold as they did before.
+        if not holds(seas[wish[1]], wish):
+            raise Broken(len(wishes))
+        self._change(seas, (*wishes, wish))
 
     def lift(self, index):
         """Take a wish away."""
-        if not is_within(index, 0, len(self.wishes) - 1):
+        seas, wishes = self._states[-1]
+        if not is_within(index, 0, len(wishes) - 1):
             raise InvalidIndex(index)
-        self._change(self._states[-1][0], (*self.wishes[:index], *self.wishes[index + 1:]))
+        self._change(seas, (*wishes[:index], *wishes[index + 1:]))
 
     def undo(self):
         """Take back the last change that has not been taken back."""
@@ -90,8 +100,5 @@ class Book:
             return action(book)
 
     def _change(self, seas, wishes):
-        """Have these seas and wishes from now on, if all of them hold."""
-        for index, wish in enumerate(wishes):
-            if not holds(seas[wish[1]], wish):
-                raise Broken(index)
+        """Have these seas and wishes from now on."""
         self._states = (*self._states, (seas, wishes))

@@ -344,6 +344,18 @@ class ChangesTest(BookCase):
             self.assertIsNone(book.undo())
             self.assertEqual(book.wishes, wishes)
 
+    def test_the_seas_stay_when_wishes_come_and_go(self):
+        book, sea = self.three(), Sea(("x", "y"))
+        book["new"] = STRAIT
+        book.lift(2)
+        self.assertEqual(book.names, ("b", "bay", "new"))
+        book["b"] = sea
+        book.lift(0)
+        self.assertIs(book["b"], sea)
+        book["new"] = sea
+        book.wish(("ways", "b", (4,), 2))
+        self.assertEqual([book["new"], book["b"], book["bay"]], [sea, sea, BAY])
+
     def test_one_of_two_equal_wishes(self):
         book, wishes = self.three(), [("ways", "b", (number,), 0) for number in (7, 8, 7)]
         for wish in wishes:
